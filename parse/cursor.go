@@ -29,11 +29,20 @@ func (c *cursor) kind(i int) int {
 
 // word returns the token i if it is a sign or a reserved word; otherwise "".
 func (c *cursor) word(i int) string {
-	if kind := c.kind(i); kind == api.TkSign || kind == api.TkKey {
-		return c.tokens[i].S
+	kind := c.kind(i)
+	if kind != api.TkSign && kind != api.TkKey {
+		return ""
 	}
-	return ""
+	s := c.tokens[i].S
+	// Tokens that were cut out of no text may have a sign's text and the kind of reserved words, or the other way round: they are neither.
+	if beginsReserved(s) != (kind == api.TkKey) {
+		return ""
+	}
+	return s
 }
+
+// beginsReserved tells the reserved words from the signs of the grammar: all of them begin with a capital letter, and no sign does.
+func beginsReserved(s string) bool { return s != "" && s[0] >= 'A' && s[0] <= 'Z' }
 
 // here returns the next token if it is a sign or a reserved word; otherwise "".
 func (c *cursor) here() string { return c.word(c.at) }

@@ -32,6 +32,7 @@ var (
 	prefixSigns = sortedKeys(prefixTable)
 	infixSigns  = sortedKeys(infixTable)
 	unitWords   = strings.Fields("CONSTANT CONSTANTS RECURSIVE VARIABLE VARIABLES ASSUME ASSUMPTION AXIOM THEOREM LOCAL INSTANCE")
+	kindOfWord  = kindsOfWords()
 )
 
 func readTable(rows string) map[string]rangeOf {
@@ -47,6 +48,20 @@ func readTable(rows string) map[string]rangeOf {
 		}
 	}
 	return table
+}
+
+// kindsOfWords returns the kinds of all reserved words and signs.
+func kindsOfWords() map[string]int {
+	kinds := map[string]int{}
+	for _, s := range lex.Words() {
+		kinds[s] = api.TkKey
+	}
+	for _, s := range lex.Signs() {
+		if lex.Canon(s) == s {
+			kinds[s] = api.TkSign
+		}
+	}
+	return kinds
 }
 
 func decimal(s string) int {
@@ -80,6 +95,9 @@ func (r second) at(i, end int) string {
 	}
 	switch t := r.l[i]; t.Kind {
 	case api.TkSign, api.TkKey:
+		if kindOfWord[t.S] != t.Kind {
+			return "neither"
+		}
 		return t.S
 	default:
 		return []string{"", "name", "number", "string", "", "", "rule", "close"}[t.Kind]
