@@ -49,6 +49,22 @@ func (m *maker) spec() api.Spec {
 	return m.sp
 }
 
+// oddSpec makes a specification with definitions that are not all well formed: some have more parameters than there may be, or ask for operators that there are not.
+func (m *maker) oddSpec() api.Spec {
+	m.sp = small()
+	for i := range 2 + m.IntN(4) {
+		d := def("D"+string(rune('0'+i)), x)
+		if m.IntN(2) == 0 {
+			d.Params = make([]int, 6+m.IntN(5))
+		}
+		for range m.IntN(3) {
+			d.Params = append(d.Params, []int{-1, 0, 1, 7, 8, 8, 9, 10}[m.IntN(8)])
+		}
+		m.sp.Defs = append(m.sp.Defs, d)
+	}
+	return m.sp
+}
+
 // expr makes an expression with about so many nodes.
 func (m *maker) expr(scope []int, nodes int) api.Expr {
 	m.left = nodes
@@ -220,8 +236,11 @@ func (m *maker) call(scope []int) api.Expr {
 	return e
 }
 
-// operator makes an operator of an arity.
+// operator makes an operator of an arity (something that looks like one, if there is none).
 func (m *maker) operator(scope []int, arity int) api.Expr {
+	if arity < 0 {
+		return lambda(arity, m.node(scope))
+	}
 	var defs []int
 	for _, i := range m.callable() {
 		if slices.Equal(m.sp.Defs[i].Params, make([]int, arity)) {

@@ -95,8 +95,11 @@ func refWhere(sp api.Spec, within int, e api.Expr, scope []int, arity int) ([]in
 	return nil, false
 }
 
-// refRight reports whether a node is as it has to be.
+// refRight reports whether a node is as it has to be. An operator has 1 to 8 values: where one of another arity is wanted, nothing is right.
 func refRight(sp api.Spec, within int, e api.Expr, scope []int, arity int) bool {
+	if arity < 0 || 8 < arity {
+		return false
+	}
 	in := func(n int) bool { return 0 <= e.N && e.N < n }
 	callable := func() bool {
 		return in(len(sp.Defs)) && (within < 0 || e.N < within || sp.Defs[e.N].Rec && sp.Defs[within].Rec)
@@ -124,7 +127,7 @@ func refRight(sp api.Spec, within int, e api.Expr, scope []int, arity int) bool 
 	case api.EOper:
 		right = callable() && arity > 0 && slices.Equal(sp.Defs[e.N].Params, make([]int, arity))
 	case api.ELambda:
-		right = e.N == arity && arity > 0
+		right = e.N == arity && 1 <= e.N && e.N <= 8
 	case api.EAll, api.EExists, api.EMap, api.EFun:
 		right = 1 <= e.N && e.N <= 8
 	case api.ECase:

@@ -115,7 +115,7 @@ func (k *look) fitsNumber(e api.Expr, scope []int) bool {
 		return isIndex(e.N, len(scope)) && scope[e.N] != 0
 	case api.ECall, api.EOper:
 		return k.mayCall(e.N)
-	case api.EAll, api.EExists, api.EMap, api.EFun:
+	case api.EAll, api.EExists, api.EMap, api.EFun, api.ELambda:
 		return e.N >= 1 && e.N <= api.MaxParams
 	case api.ECase:
 		return e.N == 0 || e.N == 1
@@ -123,8 +123,6 @@ func (k *look) fitsNumber(e api.Expr, scope []int) bool {
 		return e.N >= 1 && e.N <= api.MaxPrim
 	case api.EClass:
 		return e.N >= api.ClInt && e.N <= api.ClSeq
-	case api.ELambda:
-		return e.N >= 1 && e.N <= api.MaxBound // which number it is, its place says
 	}
 	return e.N == 0
 }
@@ -141,6 +139,9 @@ func isIndex(n, length int) bool { return n >= 0 && n < length }
 
 // fitsPlace reports whether a node is an operator of this arity; if the arity is 0: whether it is no operator.
 func (k *look) fitsPlace(e api.Expr, scope []int, arity int) bool {
+	if isNoArity(arity) {
+		return false // a definition that is not well formed asks for an operator that there is not
+	}
 	switch e.Kind {
 	case api.EOper:
 		params := k.sp.Defs[e.N].Params
@@ -155,6 +156,7 @@ func (k *look) fitsPlace(e api.Expr, scope []int, arity int) bool {
 
 func isOperator(arity int) bool { return arity != 0 }
 
+// isNoArity reports whether neither a value (0) nor an operator has this number of values.
 func isNoArity(arity int) bool { return arity < 0 || arity > api.MaxParams }
 
 // fitsCount reports whether a node has as many elements as it has to have.

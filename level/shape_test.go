@@ -375,6 +375,91 @@ func TestWhereOfAnything(t *testing.T) {
 	}
 }
 
+// operators returns an operator for each way to write one of so many values, as definitions and scope admit it, with a body that is no expression and with one that is.
+func operators(sp api.Spec, scope []int, values int) []api.Expr {
+	l := []api.Expr{lambda(values, x), lambda(values, api.Expr{}), lambda(values, lambda(values, x))}
+	for d, f := range sp.Defs {
+		if len(f.Params) == values {
+			l = append(l, oper(d))
+		}
+	}
+	for i, arity := range scope {
+		if arity == values {
+			l = append(l, handed(i))
+		}
+	}
+	return l
+}
+
+// P6.1: an operator has 1 to 8 values; where a definition that is not well formed asks for another number, nothing is one.
+func TestArities(t *testing.T) {
+	for _, arity := range []int{math.MinInt, -9, -1, 9, 10, 39, 40, 41, 100, math.MaxInt} {
+		sp := shapes()
+		odd := len(sp.Defs)
+		sp.Defs = append(sp.Defs, with(def("Odd", x), arity), with(def("Late", x), 0, 1, arity, arity))
+		for _, k := range []int{9, 10, 39, 40, 41, 100} {
+			sp.Defs = append(sp.Defs, with(def(fmt.Sprint("V", k), x), make([]int, k)...))
+		}
+		elements := []api.Expr{x, num(1), b(0), conj(9), {}, oper(odd), call(odd), apply(1, x)}
+		for _, k := range []int{arity, -1, 0, 1, 8, 9, 40} {
+			elements = append(elements, operators(sp, tScope, k)...)
+		}
+		for _, e := range elements {
+			wantWhere(t, sp, call(odd, e), false, 0)
+			wantWhere(t, sp, ex(api.EAnd, x, call(odd, e)), false, 1, 0)
+			wantWhere(t, sp, call(odd+1, x, lambda(1, x), e, e), false, 2)
+			wantWhere(t, sp, call(defT(1), lambda(1, call(odd, e))), false, 0, 0, 0)
+		}
+		wantWhere(t, sp, call(odd), false)
+		wantWhere(t, sp, call(odd, x, x), false)
+		wantWhere(t, sp, call(odd+1, x, x, x, x), false, 1)
+	}
+}
+
+// P6.1: calls do not ask whether what they call is well formed, further than what their elements have to be.
+func TestCallsOfAnything(t *testing.T) {
+	sp := small()
+	for k := 0; k <= 50; k++ {
+		sp.Defs = append(sp.Defs, with(def(fmt.Sprint("V", k), x), make([]int, k)...))
+	}
+	for k := range sp.Defs {
+		for n := 0; n <= 50; n++ {
+			wantWhere(t, sp, call(k, slices.Repeat([]api.Expr{x}, n)...), n == k)
+		}
+	}
+	sp = small(with(def("Use", x), slices.Repeat([]int{8}, 12)...), with(def("V8", x), make([]int, 8)...))
+	for _, f := range []api.Expr{oper(1), lambda(8, x), handed(8)} {
+		wantWhere(t, sp, call(0, slices.Repeat([]api.Expr{f}, 12)...), true)
+	}
+}
+
+// P6.1, P6.11: also of specifications that are not well formed.
+func TestWhereOfOddSpecs(t *testing.T) {
+	wrong, right := 0, 0
+	for seed := range 6000 {
+		m := newMaker(seed)
+		sp := m.oddSpec()
+		scope := []int{0, 1, 8, 0, 7}
+		e := m.expr(scope, 3+m.IntN(15))
+		path, found := level.Where(sp, e, scope)
+		want, wanted := refWhere(sp, -1, e, scope, 0)
+		if found != wanted || !slices.Equal(path, want) {
+			t.Fatalf("%d: %v, %v, want %v, %v: %s", seed, path, found, want, wanted, cut(shown(e)))
+		}
+		if !found {
+			right++
+			continue
+		}
+		wrong++
+		if next, again := level.Where(sp, replaced(e, path, num(1)), scope); again && slices.Compare(next, path) < 0 {
+			t.Fatalf("%d: %v behind %v: %s", seed, next, path, cut(shown(e)))
+		}
+	}
+	if wrong < 1000 || right < 1000 {
+		t.Errorf("%d wrong ones, %d right ones", wrong, right)
+	}
+}
+
 // P6.1, P6.11
 func TestWhereOfRandomOnes(t *testing.T) {
 	wrong := 0
@@ -434,6 +519,7 @@ func TestShape(t *testing.T) {
 		{bad, x, -1, api.ErrSpec}, {bad, api.Expr{}, 0, api.ErrSpec},
 		{sp, conj(3000), 0, api.OK}, {sp, conj(3001), 0, api.ErrExpr}, {sp, deep(100), 0, api.OK}, {sp, deep(101), 0, api.ErrExpr},
 		{sp, oper(0), 0, api.ErrExpr}, {sp, lambda(1, x), 0, api.ErrExpr}, {sp, apply(0), 1, api.ErrExpr},
+		{sp, call(defT(8), lambda(8, x)), 32, api.OK}, {sp, call(defT(8), lambda(9, x)), 0, api.ErrExpr}, {sp, call(defT(8), lambda(8, x)), 33, api.ErrExpr},
 	} {
 		if err := level.Shape(l.sp, l.e, l.bound); err != l.want {
 			t.Errorf("%s in %d: error %d, want %d", cut(shown(l.e)), l.bound, err, l.want)
